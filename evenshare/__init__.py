@@ -1,0 +1,1 @@
+"""Finite distributions over whole numbers, exactly."""
