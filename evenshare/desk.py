@@ -1,8 +1,15 @@
 """The calls on one object, read from one list of whole numbers, and their answers."""
 
+from evenshare.measures import chance_between
+from evenshare.measures import chance_to_beat
+from evenshare.measures import form_row
+from evenshare.measures import mean
+from evenshare.measures import quantile
 from evenshare.shares import NoFit
+from evenshare.shares import NoneThere
 from evenshare.shares import even_of
 from evenshare.shares import fitting_of
+from evenshare.shares import given_of
 from evenshare.shares import greater_of
 from evenshare.shares import lesser_of
 from evenshare.shares import mix_of
@@ -18,10 +25,11 @@ MOST_PARTS = 65535
 DONE = 0
 WRONG = -1
 NO_FIT = -2
+NONE_THERE = -5
 
 WEIGHTS = 0
 # How many numbers a call has with its own number, but for the pairs of weights.
-LENGTHS = {0: 3, 1: 4, 2: 4, 3: 4, 4: 4, 5: 4, 6: 6}
+LENGTHS = {0: 3, 1: 4, 2: 4, 3: 4, 4: 4, 5: 4, 6: 6, 7: 5, 8: 4, 9: 3, 10: 2, 11: 4, 12: 2}
 
 
 class Wrong(ValueError):
@@ -83,6 +91,10 @@ def make_mix(kept, call):
     return mix_of(f, g, a, b)
 
 
+def make_given(kept, call):
+    return given_of(kept_at(kept, call[2]), call[3], call[4])
+
+
 MAKERS = {
     0: make_weights,
     1: make_even,
@@ -91,6 +103,41 @@ MAKERS = {
     4: make_less,
     5: make_times,
     6: make_mix,
+    7: make_given,
+}
+
+
+def tell_chance(kept, call):
+    return chance_between(kept_at(kept, call[1]), call[2], call[3])
+
+
+def tell_beats(kept, call):
+    return chance_to_beat(kept_at(kept, call[1]), kept_at(kept, call[2]))
+
+
+def tell_mean(kept, call):
+    return mean(kept_at(kept, call[1]))
+
+
+def tell_quantile(kept, call):
+    f = kept_at(kept, call[1])
+    a = call[2]
+    b = call[3]
+    if a < 1 or a > b:
+        raise Wrong("a is not from 1 to b")
+    return [quantile(f, a, b)]
+
+
+def tell_form(kept, call):
+    return form_row(kept_at(kept, call[1]))
+
+
+TELLERS = {
+    8: tell_chance,
+    9: tell_beats,
+    10: tell_mean,
+    11: tell_quantile,
+    12: tell_form,
 }
 
 
@@ -102,16 +149,26 @@ def made_by(kept, call):
     return maker(kept, call)
 
 
+def told_by(kept, call):
+    """What is answered behind the 0; kept changes only if a call that makes one isn't refused."""
+    if call[0] in MAKERS:
+        kept[call[1]] = made_by(kept, call)
+        return []
+    teller = TELLERS[call[0]]
+    return teller(kept, call)
+
+
 def answer_to(kept, call):
-    """The numbers answered to one call; kept changes only if it isn't refused."""
+    """The numbers answered to one call."""
     try:
-        made = made_by(kept, call)
+        told = told_by(kept, call)
     except Wrong:
         return [WRONG]
+    except NoneThere:
+        return [NONE_THERE]
     except NoFit:
         return [NO_FIT]
-    kept[call[1]] = made
-    return [DONE]
+    return [DONE] + told
 
 
 def call_at(calls, start):

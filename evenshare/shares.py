@@ -1,8 +1,8 @@
 """Distributions as dicts of values and weights.
 
-A distribution that is handed in as f or g is in its lowest form and fits. What a function that
-ends in `_of` gives back is a new one in its lowest form, values rising; it raises NoFit where
-that form doesn't fit.
+A distribution that is handed in as f or g is in its lowest form, values rising, and fits. What a
+function that ends in `_of` gives back is a new one in its lowest form, values rising; it raises
+NoFit where that form doesn't fit.
 """
 
 MOST_VALUES = 256
@@ -11,7 +11,11 @@ MOST_WEIGHT = 1099511627776
 
 
 class NoFit(ValueError):
-    """The lowest form of a result doesn't fit."""
+    """A result doesn't fit."""
+
+
+class NoneThere(ValueError):
+    """A distribution has no value where one is needed."""
 
 
 def common_divisor(a, b):
@@ -124,3 +128,19 @@ def mix_of(f, g, a, b):
     for value, weight in g.items():
         weights[value] = weights.get(value, 0) + g_factor * weight
     return fitting_of(weights)
+
+
+def part_between(f, lo, hi):
+    """The values of f from lo to hi with the weights they have in f; perhaps none."""
+    part = {}
+    for value, weight in f.items():
+        if lo <= value <= hi:
+            part[value] = weight
+    return part
+
+
+def given_of(f, lo, hi):
+    part = part_between(f, lo, hi)
+    if len(part) == 0:
+        raise NoneThere("no value from lo to hi")
+    return fitting_of(part)

@@ -81,7 +81,7 @@ class Fits(unittest.TestCase):
                 counted = Counted()
                 counted.answer(f)
                 self.assertEqual(last_answer(f, times(1, 0, n)), counted.answer(times(1, 0, n)))
-                self.assertEqual(kept_after(f, times(1, 0, n)), counted.forms())
+                self.assertEqual(kept_after(f, times(1, 0, n)), counted.kept)
 
 
 if __name__ == "__main__":
